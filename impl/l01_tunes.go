@@ -373,15 +373,20 @@ func ReadTune(text string) (Tune, int64) {
 func readNote(text string) (Note, bool) {
 	step, name, found := strings.Cut(text, ":")
 	at, err := strconv.ParseInt(step, 10, 16)
-	if !found || err != nil {
+	pitch, named := pitchNamed(name)
+	if !found || err != nil || !named {
 		return Note{}, false
 	}
-	for pitch := range int64(MaxPitch) {
-		if PitchName(pitch) == name {
-			return Note{At: int16(at), Pitch: int8(pitch)}, true
+	return Note{At: int16(at), Pitch: pitch}, true
+}
+
+func pitchNamed(name string) (int8, bool) {
+	for pitch := range int8(MaxPitch) {
+		if PitchName(int64(pitch)) == name {
+			return pitch, true
 		}
 	}
-	return Note{}, false
+	return 0, false
 }
 
 func (t Tune) isShort() bool { return len(t) <= MaxNotes }
