@@ -209,11 +209,7 @@ func JoinTunes(a, b Tune) (Tune, int64) {
 	if !ValidTune(a) || !ValidTune(b) {
 		return nil, ErrInvalid
 	}
-	behind, code := b.shifted(a.length(), 0)
-	if code != OK {
-		return nil, ErrLimit
-	}
-	return MakeTune(slices.Concat(a, behind))
+	return a.with(b, a.length())
 }
 
 // Together returns the notes of two tunes.
@@ -232,8 +228,7 @@ func CutTune(t Tune, from, to int64) (Tune, int64) {
 	if !within(from, 0, to) || !within(to, 0, MaxAt) {
 		return nil, ErrRange
 	}
-	first, end := t.firstFrom(from), t.firstFrom(to)
-	return t[first:end:end].shifted(-from, 0)
+	return t.between(from, to).shifted(-from, 0)
 }
 
 // CanonOf returns a canon.
@@ -431,6 +426,12 @@ func (t Tune) firstFrom(step int64) int {
 	return sort.Search(len(t), func(i int) bool { return int64(t[i].At) >= step })
 }
 
+// between returns the notes from one step to the one before another.
+func (t Tune) between(from, to int64) Tune {
+	first, end := t.firstFrom(from), t.firstFrom(to)
+	return t[first:end:end]
+}
+
 // changed returns the tune in which each note is where place puts it; no two notes may be put at one place.
 func (t Tune) changed(place func(at, pitch int64) (int64, int64)) (Tune, int64) {
 	out := make(Tune, 0, len(t))
@@ -447,6 +448,15 @@ func (t Tune) changed(place func(at, pitch int64) (int64, int64)) (Tune, int64) 
 
 func (t Tune) shifted(steps, by int64) (Tune, int64) {
 	return t.changed(func(at, pitch int64) (int64, int64) { return at + steps, pitch + by })
+}
+
+// with returns the notes of both tunes, the other one being moved; ErrLimit if that is no tune.
+func (t Tune) with(other Tune, steps int64) (Tune, int64) {
+	moved, code := other.shifted(steps, 0)
+	if code != OK {
+		return nil, ErrLimit
+	}
+	return MakeTune(slices.Concat(t, moved))
 }
 
 // voices yields the voices of a canon, each with the code of its change.

@@ -34,6 +34,9 @@ func modelFrame(f impl.Frame) bool {
 func placesOf(d impl.Drum) map[place]bool {
 	set := map[place]bool{}
 	for step := range int64(96) {
+		if d[step] == 0 {
+			continue
+		}
 		for track := range int64(32) {
 			if d[step]/(1<<track)%2 == 1 {
 				set[place{step, track}] = true
