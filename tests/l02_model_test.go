@@ -160,6 +160,8 @@ func answers(code int64, results ...any) string {
 			parts = append(parts, rawFrame(x))
 		case impl.Tune:
 			parts = append(parts, raw(x))
+		case []impl.Change:
+			parts = append(parts, rawChanges(x))
 		default:
 			parts = append(parts, fmt.Sprint(x))
 		}

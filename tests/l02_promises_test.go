@@ -28,6 +28,28 @@ func listOfSlice[T any](list []T, filler T) listOf {
 	}
 }
 
+// checkLists asks that slices, which two calls return alike, share memory neither with arguments nor with each other; shown shows the memory of the arguments.
+func checkLists(t *testing.T, call func() []listOf, shown func() string) {
+	t.Helper()
+	before, kept := shown(), call()
+	var texts []string
+	for _, list := range kept {
+		texts = append(texts, list.show())
+	}
+	for i, list := range call() {
+		wantEqual(t, list.show(), texts[i], "equal results", i)
+		list.spoil()
+		wantEqual(t, shown(), before, "no result shares memory with an argument", i)
+	}
+	for i, list := range kept {
+		wantEqual(t, list.show(), texts[i], "shares no memory with a result of another call", i)
+		list.spoil()
+		for j := i + 1; j < len(kept); j++ {
+			wantEqual(t, kept[j].show(), texts[j], "shares no memory with another result", i, j)
+		}
+	}
+}
+
 // drumLists has each function of chapter 2 that returns a slice.
 func drumLists(f impl.Frame, d impl.Drum) []listOf {
 	tune, _ := impl.TuneOf(f, d)

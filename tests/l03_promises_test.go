@@ -106,23 +106,7 @@ func pinLists(a pinArgs) []listOf {
 func TestP1PinningSharesNoMemory(t *testing.T) {
 	for _, a := range pinArgsForPurity() {
 		spare, shown := spareArgs(a)
-		before, kept := shown(), pinLists(spare)
-		var texts []string
-		for _, list := range kept {
-			texts = append(texts, list.show())
-		}
-		for i, list := range pinLists(spare) {
-			wantEqual(t, list.show(), texts[i], "equal results", i)
-			list.spoil()
-			wantEqual(t, shown(), before, "no result shares memory with an argument", i)
-		}
-		for i, list := range kept {
-			wantEqual(t, list.show(), texts[i], "shares no memory with a result of another call", i)
-			list.spoil()
-			for j := i + 1; j < len(kept); j++ {
-				wantEqual(t, kept[j].show(), texts[j], "shares no memory with another result", i, j)
-			}
-		}
+		checkLists(t, func() []listOf { return pinLists(spare) }, shown)
 	}
 }
 
