@@ -162,11 +162,18 @@ func answers(code int64, results ...any) string {
 			parts = append(parts, raw(x))
 		case []impl.Change:
 			parts = append(parts, rawChanges(x))
+		case impl.Wear:
+			parts = append(parts, rawWear(x))
 		default:
 			parts = append(parts, fmt.Sprint(x))
 		}
 	}
 	return strings.Join(parts, "; ")
+}
+
+// withoutZeros leaves the zero values of answers out.
+func withoutZeros(text string) string {
+	return strings.NewReplacer("0", "", "[]", "", "false", "", ";", "", " ", "").Replace(text)
 }
 
 // drumCall is a function of chapter 2: what the program returns, and what the model does for valid frames and drums.

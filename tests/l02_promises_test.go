@@ -131,7 +131,7 @@ func TestP1DrumsShareNoMemory(t *testing.T) {
 func checkInvalidDrum(t *testing.T, c drumCall, f impl.Frame, d, e impl.Drum, n, k int64) {
 	t.Helper()
 	got := c.run(f, d, e, n, k)
-	zeros := strings.NewReplacer("0", "", "[]", "", "false", "", ";", "", " ", "").Replace(got)
+	zeros := withoutZeros(got)
 	if zeros != "invalid" {
 		t.Errorf("%s: %s; %s; %s; %d %d: got %s, want ErrInvalid and zero values", c.name, rawFrame(f), rawDrum(d), rawDrum(e), n, k, got)
 	}

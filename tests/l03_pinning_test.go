@@ -33,7 +33,7 @@ func shown(t *testing.T, code int64, results ...any) string {
 	if code == impl.OK {
 		return text
 	}
-	zeros := strings.NewReplacer("0", "", "[]", "", "false", "", ";", "", " ", "").Replace(text)
+	zeros := withoutZeros(text)
 	wantEqual(t, zeros, "", "nothing with an error")
 	return "[" + impl.CodeName(code) + "]"
 }

@@ -114,7 +114,7 @@ func TestP1PinningSharesNoMemory(t *testing.T) {
 func checkCode(t *testing.T, c pinCall, a pinArgs, want string) {
 	t.Helper()
 	got := c.run(a)
-	if zeros := strings.NewReplacer("0", "", "[]", "", "false", "", ";", "", " ", "").Replace(got); zeros != want {
+	if zeros := withoutZeros(got); zeros != want {
 		t.Errorf("%s: %s: got %s, want %s and zero values", c.name, a, got, want)
 	}
 }

@@ -115,7 +115,6 @@ func TestP1RepertoireSharesNoMemory(t *testing.T) {
 	}
 }
 
-// TestP1RepertoireSchedule asks for equal results with one processor and with several, with many calls at a time, and for no goroutine that is left behind.
 func TestP1RepertoireSchedule(t *testing.T) {
 	random := rand.New(rand.NewSource(92))
 	var subjects []repArgs
@@ -124,8 +123,7 @@ func TestP1RepertoireSchedule(t *testing.T) {
 		r.list = randomDrums(random, r.f, len(subjects)%9)
 		subjects = append(subjects, r)
 	}
-	before := runtime.NumGoroutine()
-	all := func() string {
+	checkSchedule(t, func() string {
 		var results []string
 		for _, r := range subjects {
 			for _, c := range repCalls() {
@@ -133,8 +131,13 @@ func TestP1RepertoireSchedule(t *testing.T) {
 			}
 		}
 		return strings.Join(results, "\n")
-	}
-	want := all()
+	})
+}
+
+// checkSchedule asks for equal results with one processor and with several, with many calls at a time, and for no goroutine that is left behind.
+func checkSchedule(t *testing.T, all func() string) {
+	t.Helper()
+	before, want := runtime.NumGoroutine(), all()
 	defer runtime.GOMAXPROCS(runtime.GOMAXPROCS(1))
 	for _, processors := range []int{1, 2, 8, 64} {
 		runtime.GOMAXPROCS(processors)
@@ -162,7 +165,7 @@ func TestP1RepertoireSchedule(t *testing.T) {
 func checkRepCode(t *testing.T, c repCall, r repArgs, want string) {
 	t.Helper()
 	got := c.run(r)
-	if zeros := strings.NewReplacer("0", "", "[]", "", "false", "", ";", "", " ", "").Replace(got); zeros != want {
+	if zeros := withoutZeros(got); zeros != want {
 		t.Errorf("%s: got %s, want %s and zero values", c.name, got, want)
 	}
 }
