@@ -164,6 +164,8 @@ func answers(code int64, results ...any) string {
 			parts = append(parts, rawChanges(x))
 		case impl.Wear:
 			parts = append(parts, rawWear(x))
+		case []impl.Choice:
+			parts = append(parts, rawChoices(x))
 		default:
 			parts = append(parts, fmt.Sprint(x))
 		}
